@@ -1,0 +1,1 @@
+"""Likematch: patterns found in terms that come to be alike."""

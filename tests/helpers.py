@@ -1,0 +1,138 @@
+"""What several tests need: things of any kind, terms, and likeness found the slow way."""
+
+import random
+
+A = ("a",)
+B = ("b",)
+C = ("c",)
+D = ("d",)
+
+# None of these is a term or a pattern, a list of rows or a text of a pattern.
+NO_PATTERNS = (
+    None, True, False, 0, 1, -1, "", "a", "f(a)", "?", "x?", "?X", "?x1", "? x", "?x ", " ?x", "?abcde", "??x", "?\n",
+    [], ["a"], ["f", ("a",)], {}, {"a": 1}, {"?x": ("a",)}, (), (1,), (None,), (True,), ("",), ("A",), ("a1",), ("a ",),
+    ("a\n",), ("abcdefghi",), (("a",),), (["a"],), ({},), ("?x",), ("f", "a"), ("f", ""), ("f", ()), ("f", ["a"]),
+    ("f", [("a",)]), ("f", None), ("f", 1), ("f", True), ("f", ("a",), "b"), ("f", ("g", ("a", 1))), ("f", "?abcde"),
+    ("f", ("a",), ("a",), ("a",), ("a",)), ("f", "?x", "?x", "?x", "?x"), ("f", {}), ("f", ("A",)),
+)
+
+
+def chain(deep, last=A, head="f"):
+    """A term of one part in another, so deep in all where last is 1 deep."""
+    term = last
+    for _ in range(deep - 1):
+        term = (head, term)
+    return term
+
+
+def numbered(number):
+    """A term without parts, another one for each number."""
+    return ("t" + "abcdefghij"[number // 10] + "abcdefghij"[number % 10],)
+
+
+def wide(size):
+    """A term of this size, from 2 to 31, that is at most 4 deep."""
+    left = size - 1
+    parts = []
+    while left:
+        take = min(left, 10)
+        inner = ["g"]
+        rest = take - 1
+        while rest:
+            some = min(rest, 3)
+            inner.append(("h",) + (A,) * (some - 1))
+            rest -= some
+        parts.append(tuple(inner))
+        left -= take
+    return ("f",) + tuple(parts)
+
+
+def count(thing):
+    """The size, told plainly."""
+    return 1 if isinstance(thing, str) else 1 + sum(count(part) for part in thing[1:])
+
+
+def text_of(thing):
+    """The text, told plainly."""
+    if isinstance(thing, str):
+        return thing
+    return thing[0] + ("(" + ",".join(text_of(part) for part in thing[1:]) + ")" if len(thing) > 1 else "")
+
+
+def rank(thing):
+    return (count(thing), text_of(thing))
+
+
+def inner_terms(term, found=None):
+    """All terms in the term, itself too."""
+    found = set() if found is None else found
+    found.add(term)
+    for part in term[1:]:
+        inner_terms(part, found)
+    return found
+
+
+def slow_likeness(terms, pairs):
+    """The least relation, as a set of pairs, over these terms and all terms in them and in the pairs."""
+    world = set()
+    for term in list(terms) + [term for pair in pairs for term in pair]:
+        inner_terms(term, world)
+    alike = {(term, term) for term in world} | set(pairs)
+    while True:
+        more = {(other, one) for one, other in alike}
+        seconds = {}
+        for one, other in alike:
+            seconds.setdefault(one, []).append(other)
+        more |= {(one, third) for one, other in alike for third in seconds[other]}
+        for one in world:
+            for other in world:
+                if one[0] == other[0] and len(one) == len(other):
+                    if all(pair in alike for pair in zip(one[1:], other[1:])):
+                        more.add((one, other))
+        if more <= alike:
+            return alike
+        alike |= more
+
+
+def some_term(chance, deep=3):
+    """A small term, another one each time."""
+    parts = chance.choice((0, 0, 1, 1, 2)) if deep > 1 else 0
+    if parts == 0:
+        return (chance.choice("abcd"),)
+    return (chance.choice("fg"),) + tuple(some_term(chance, deep - 1) for _ in range(parts))
+
+
+def some_pattern(chance, deep=3):
+    """A small pattern, another one each time."""
+    if chance.random() < 0.3:
+        return chance.choice(("?x", "?y", "?long"))
+    parts = chance.choice((0, 1, 2, 3)) if deep > 1 else 0
+    return (chance.choice(("a", "f", "longname")),) + tuple(some_pattern(chance, deep - 1) for _ in range(parts))
+
+
+def chances(seed):
+    """The same run of choices each time."""
+    return random.Random(seed)
+
+
+def all_of(web):
+    """All that a web tells without being asked of a term."""
+    return (web.log(), web.terms(), web.classes(), web.told(), web.parted(), len(web))
+
+
+def undone(web):
+    """What a web's twin does again, one by one, and so what can be done again in the web."""
+    from likematch.errors import NoDeed
+
+    other = web.twin()
+    before = len(other.log())
+    while True:
+        try:
+            other.again()
+        except NoDeed:
+            return other.log()[before:]
+
+
+def whole(web):
+    """All that a web tells, with what can be done again."""
+    return all_of(web) + (undone(web),)
