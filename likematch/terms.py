@@ -10,6 +10,16 @@ MOST_SIZE = 30
 MOST_DEEP = 5
 
 
+def is_number(thing):
+    """Whether thing is a number, which True and False are not."""
+    return isinstance(thing, int) and not isinstance(thing, bool)
+
+
+def is_below(thing, many):
+    """Whether thing is a number from 0 on that is below many."""
+    return is_number(thing) and 0 <= thing < many
+
+
 def is_word(thing, most):
     """Whether thing is a text of 1 to so many small letters."""
     if not isinstance(thing, str) or not 1 <= len(thing) <= most:
@@ -53,6 +63,11 @@ def is_term(thing):
 def is_pattern(thing):
     """Whether thing is a pattern within the bounds."""
     return 1 <= size_within(thing, True, MOST_DEEP) <= MOST_SIZE
+
+
+def is_pair(thing):
+    """Whether thing is a pair of terms within the bounds."""
+    return isinstance(thing, tuple) and len(thing) == 2 and is_term(thing[0]) and is_term(thing[1])
 
 
 def refuse_no_term(thing):

@@ -49,14 +49,14 @@ def alike_by_parts(rows, lows):
     return found
 
 
-def lows_of(rising, pairs):
-    """For each of these terms the place of the least one that is alike to it by the pairs.
+def lows_of(terms, pairs):
+    """For each of these terms the place of the first one that is alike to it by the pairs.
 
-    The terms rise, and have all terms in them, and those of the pairs, among them.
+    All terms in them, and those of the pairs, are among them.
     """
-    places = {term: at for at, term in enumerate(rising)}
-    rows = [(term[0], [places[part] for part in term[1:]]) for term in rising]
-    lows = list(range(len(rising)))
+    places = {term: at for at, term in enumerate(terms)}
+    rows = [(term[0], [places[part] for part in term[1:]]) for term in terms]
+    lows = list(range(len(terms)))
     due = [(places[one], places[other]) for one, other in pairs]
     while due:
         for one, other in due:

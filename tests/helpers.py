@@ -94,6 +94,52 @@ def slow_likeness(terms, pairs):
         alike |= more
 
 
+def walked(told, paper):
+    """The pair of a paper, walked plainly; an AssertionError where it is none."""
+    assert isinstance(paper, list) and 1 <= len(paper) <= 20000
+    pairs = []
+    for row in paper:
+        assert isinstance(row, tuple)
+        word, *rest = row
+        if word == "same":
+            term, = rest
+            pair = (term, term)
+        elif word == "told":
+            number, = rest
+            pair = told[number]
+        else:
+            head = rest.pop(0) if word == "parts" else None
+            ats = rest[0] if word == "parts" else rest
+            assert all(type(at) is int and 0 <= at < len(pairs) for at in ats)
+            if word == "back":
+                at, = ats
+                pair = pairs[at][::-1]
+            elif word == "then":
+                at, place = ats
+                assert pairs[at][1] == pairs[place][0]
+                pair = (pairs[at][0], pairs[place][1])
+            else:
+                assert word == "parts" and len(rest) == 1 and type(ats) is tuple and 1 <= len(ats) <= 3
+                pair = tuple((head,) + tuple(pairs[at][side] for at in ats) for side in (0, 1))
+        assert all(count(term) <= 30 and deep(term) <= 5 for term in pair)
+        pairs.append(pair)
+    return pairs[-1]
+
+
+def deep(thing):
+    """How deep it is, told plainly."""
+    return 1 + max((deep(part) for part in thing[1:]), default=0)
+
+
+def some_rows(chance, many):
+    """So many rows of a log, most of them likenesses."""
+    rows = []
+    for _ in range(many):
+        word = chance.choice(("put", "like", "like", "like", "unlike"))
+        rows.append((word, some_term(chance)) + (() if word == "put" else (some_term(chance),)))
+    return rows
+
+
 def some_term(chance, deep=3):
     """A small term, another one each time."""
     parts = chance.choice((0, 0, 1, 1, 2)) if deep > 1 else 0

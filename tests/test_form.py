@@ -12,6 +12,11 @@ FUNCTIONS = {
     "terms": {"deep_of": ["pattern"], "filled": ["pattern", "fill"], "holes_of": ["pattern"], "is_pattern": ["thing"],
               "is_term": ["thing"], "lesser": ["one", "other"], "size_of": ["pattern"]},
     "texts": {"pattern_text": ["pattern"], "read_pattern": ["text"]},
+    "papers": {"paper_of": ["web", "one", "other"], "says": ["told", "paper"], "tellings": ["paper"]},
+    "tables": {"is_table": ["thing"], "keeps": ["table", "pairs"], "table_of": ["web", "more"],
+               "value": ["table", "term"]},
+    "clashes": {"clash": ["web"], "culprits": ["web"], "sound": ["web"]},
+    "logs": {"web_of": ["log"]},
 }
 METHODS = {
     "webs": {"Web": {"put": ["term"], "like": ["one", "other"], "unlike": ["one", "other"], "alike": ["one", "other"],
@@ -55,6 +60,11 @@ class Interface(unittest.TestCase):
                     with self.subTest(method):
                         self.assertIn(method, vars(found))
                         self.assertEqual(argument_names(vars(found)[method]), ["self"] + arguments)
+
+
+    def test_arguments_by_name_alone(self):
+        more = inspect.signature(importlib.import_module("likematch.tables").table_of).parameters["more"]
+        self.assertEqual((more.kind, more.default), (more.KEYWORD_ONLY, ()))
 
 
 class Language(unittest.TestCase):
