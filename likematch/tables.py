@@ -34,10 +34,12 @@ def refuse_no_table(thing):
         raise BadTable("this is no table")
 
 
-def worth(table, term):
-    """The element of what is surely a table that what is surely a term is worth."""
+def worth(table, pattern, worths):
+    """What a pattern is worth in a table, surely such ones, by what its holes are worth."""
+    if isinstance(pattern, str):
+        return worths[pattern]
     _, rows, rest = table
-    key = (term[0], tuple([worth(table, part) for part in term[1:]]))
+    key = (pattern[0], tuple([worth(table, part, worths) for part in pattern[1:]]))
     return rows.get(key, rest)
 
 
@@ -45,7 +47,7 @@ def value(table, term):
     """The element of the table that the term is worth."""
     refuse_no_table(table)
     refuse_no_term(term)
-    return worth(table, term)
+    return worth(table, term, {})
 
 
 def keeps(table, pairs):
@@ -53,7 +55,7 @@ def keeps(table, pairs):
     refuse_no_table(table)
     if not isinstance(pairs, (list, tuple)) or not all([is_pair(pair) for pair in pairs]):
         raise BadTerms("this is no list of pairs of terms")
-    return all([worth(table, one) == worth(table, other) for one, other in pairs])
+    return all([worth(table, one, {}) == worth(table, other, {}) for one, other in pairs])
 
 
 def refuse_no_more(thing):

@@ -123,14 +123,18 @@ def exchanged(pattern, fill):
     return (pattern[0],) + tuple([exchanged(part, fill) for part in pattern[1:]])
 
 
-def filled(pattern, fill):
-    """The term that the pattern is with the fill's terms in its holes."""
-    holes = holes_of(pattern)
+def refuse_no_fill(holes, fill):
+    """Refuse a fill that lacks one of the holes, or that gives one of them what is no term."""
     for hole in holes:
         if hole not in fill:
             raise NoHole(hole)
     for hole in holes:
         refuse_no_term(fill[hole])
+
+
+def filled(pattern, fill):
+    """The term that the pattern is with the fill's terms in its holes."""
+    refuse_no_fill(holes_of(pattern), fill)
     term = exchanged(pattern, fill)
     if not is_term(term):
         raise TooGreat("this is greater or deeper than a term may be")

@@ -1,6 +1,11 @@
 """What several tests need: things of any kind, terms, and likeness found the slow way."""
 
+import itertools
 import random
+
+from likematch.errors import NoDeed
+from likematch.texts import read_pattern
+from likematch.webs import Web
 
 A = ("a",)
 B = ("b",)
@@ -156,6 +161,89 @@ def some_pattern(chance, deep=3):
     return (chance.choice(("a", "f", "longname")),) + tuple(some_pattern(chance, deep - 1) for _ in range(parts))
 
 
+def holes_told(patterns):
+    """The holes of the patterns in the order in which they first stand, told plainly."""
+    found = []
+    for pattern in patterns:
+        for hole in [pattern] if isinstance(pattern, str) else holes_told(pattern[1:]):
+            if hole not in found:
+                found.append(hole)
+    return found
+
+
+def stands_slowly(web, pattern, fill, row):
+    """Whether the pattern stands at this class, holes at the classes that fill gives, by the words of the document."""
+    if isinstance(pattern, str):
+        return fill[pattern] == row
+    classes = {term: other for other in web.classes() for term in other}
+    return any(term[0] == pattern[0] and len(term) == len(pattern)
+               and all(stands_slowly(web, inner, fill, classes[part]) for inner, part in zip(pattern[1:], term[1:]))
+               for term in row)
+
+
+def slow_fills(web, patterns):
+    """All ways to fill the holes of the patterns with classes, in order, as pairs of a dict and what is told of it."""
+    holes = holes_told(patterns)
+    for rows in itertools.product(web.classes(), repeat=len(holes)):
+        yield dict(zip(holes, rows)), tuple((hole, row[0]) for hole, row in zip(holes, rows))
+
+
+def slow_joint(web, patterns):
+    return [told for fill, told in slow_fills(web, patterns)
+            if all(any(stands_slowly(web, pattern, fill, row) for row in web.classes()) for pattern in patterns)]
+
+
+def slow_matches(web, pattern):
+    return [(row[0], told) for row in web.classes() for fill, told in slow_fills(web, [pattern])
+            if stands_slowly(web, pattern, fill, row)]
+
+
+def like_fillings(web, one, other):
+    """Whether the two fillings are like in the web."""
+    return [pair[0] for pair in one] == [pair[0] for pair in other] and all(
+        web.alike(near[1], far[1]) for near, far in zip(one, other))
+
+
+def web_behind(rows):
+    """A new web behind these rows."""
+    web = Web()
+    web.all_done(rows)
+    return web
+
+
+def web_of_texts(*texts):
+    """A web behind rows such as `a` (put), `a=b` (told alike) and `a!b` (told unlike)."""
+    web = Web()
+    for text in texts:
+        if "=" in text:
+            web.like(*map(read_pattern, text.split("=")))
+        elif "!" in text:
+            web.unlike(*map(read_pattern, text.split("!")))
+        else:
+            web.put(read_pattern(text))
+    return web
+
+
+def fillings_told(*texts):
+    """Fillings from texts such as `?x=a ?y=f(a)`."""
+    return [tuple(tuple(map(read_pattern, word.split("="))) for word in text.split()) for text in texts]
+
+
+def matches_told(*texts):
+    """Pairs from texts such as `f(a) ?x=a`."""
+    return [(read_pattern(text.split()[0]), fillings_told(" ".join(text.split()[1:]))[0]) for text in texts]
+
+
+def some_small_pattern(chance, deep=3, holes=("?x", "?y")):
+    """A pattern over the heads of some_term, so that it often stands in a web of such terms."""
+    if chance.random() < 0.45:
+        return chance.choice(holes)
+    parts = chance.choice((0, 1, 1, 2)) if deep > 1 else 0
+    if parts == 0:
+        return (chance.choice("abcd"),)
+    return (chance.choice("fg"),) + tuple(some_small_pattern(chance, deep - 1, holes) for _ in range(parts))
+
+
 def chances(seed):
     """The same run of choices each time."""
     return random.Random(seed)
@@ -168,8 +256,6 @@ def all_of(web):
 
 def undone(web):
     """What a web's twin does again, one by one, and so what can be done again in the web."""
-    from likematch.errors import NoDeed
-
     other = web.twin()
     before = len(other.log())
     while True:

@@ -3,7 +3,7 @@
 import itertools
 import unittest
 
-from helpers import A, B, C, D, chances, numbered, some_rows, walked, whole
+from helpers import A, B, C, D, chances, numbered, some_rows, walked, web_behind, whole
 from likematch.clashes import clash, culprits, sound
 from likematch.errors import NoDeed, TooMany
 from likematch.papers import says, tellings
@@ -19,12 +19,6 @@ TERMS = (A, B, C, D, ("f", A), ("f", B), ("f", C), ("g", ("f", A), B))
 def some_pair(chance):
     """Two of few terms, so that they often come to be alike."""
     return tuple(chance.sample(TERMS, 2)) if chance.random() < 0.95 else (A, A)
-
-
-def web_behind(rows):
-    web = Web()
-    web.all_done(rows)
-    return web
 
 
 def clashes_by(web, chosen):

@@ -17,12 +17,28 @@ FUNCTIONS = {
                "value": ["table", "term"]},
     "clashes": {"clash": ["web"], "culprits": ["web"], "sound": ["web"]},
     "logs": {"web_of": ["log"]},
+    "matches": {"joint": ["web", "patterns"], "matches": ["web", "pattern"],
+                "stands_at": ["web", "pattern", "term", "fill"]},
+    "rules": {"covers": ["rule"]},
+}
+CLASSES = {
+    "webs": {"Web": []},
+    "finders": {"Finder": ["web", "patterns"]},
+    "rules": {"Rule": ["name", "one", "other", "when", "apart", "triggers"]},
+    "rounds": {"Rounds": ["web", "rules"]},
 }
 METHODS = {
     "webs": {"Web": {"put": ["term"], "like": ["one", "other"], "unlike": ["one", "other"], "alike": ["one", "other"],
                      "classes": [], "least": ["term"], "terms": [], "__len__": [], "told": [], "parted": [],
                      "back": [], "again": [], "log": [], "twin": [], "all_done": ["deeds"]}},
+    "finders": {"Finder": {"new": [], "told": [], "gone": [], "forget": []}},
+    "rules": {"Rule": {"holes": [], "triggers": [], "__eq__": ["other"]}},
+    "rounds": {"Rounds": {"bring": [], "run": ["most"], "is_quiet": [], "reached": [], "rules": [], "instances": []}},
 }
+# Arguments by name alone, and what they are where they are left out.
+BY_NAME = {("tables", "table_of"): {"more": ()},
+           ("rules", "Rule"): {"when": (), "apart": False, "triggers": None}}
+LIBRARY = {"itertools": ("combinations",)}
 FORBIDDEN = (ast.Global, ast.AsyncFunctionDef, ast.Import, ast.Set, ast.Div)
 BUILTINS = ("len range enumerate zip min max sum abs sorted reversed int str bool list tuple dict set isinstance ord repr "
             "any all divmod super ValueError KeyError").split()
@@ -55,16 +71,22 @@ class Interface(unittest.TestCase):
             for word, methods in classes.items():
                 found = getattr(module, word)
                 self.assertEqual(found.__module__, module.__name__)
-                self.assertEqual(argument_names(found), [])
+                self.assertEqual(argument_names(found), CLASSES[name][word])
                 for method, arguments in methods.items():
                     with self.subTest(method):
                         self.assertIn(method, vars(found))
                         self.assertEqual(argument_names(vars(found)[method]), ["self"] + arguments)
 
-
     def test_arguments_by_name_alone(self):
-        more = inspect.signature(importlib.import_module("likematch.tables").table_of).parameters["more"]
-        self.assertEqual((more.kind, more.default), (more.KEYWORD_ONLY, ()))
+        for (name, word), expected in BY_NAME.items():
+            parameters = inspect.signature(getattr(importlib.import_module(f"likematch.{name}"), word)).parameters
+            found = {key: row.default for key, row in parameters.items() if row.kind == row.KEYWORD_ONLY}
+            self.assertEqual(found, expected)
+
+    def test_rounds_at_most(self):
+        module = importlib.import_module("likematch.rounds")
+        self.assertEqual(module.MOST_ROUNDS, 6)
+        self.assertEqual(inspect.signature(module.Rounds.run).parameters["most"].default, 6)
 
 
 class Language(unittest.TestCase):
@@ -104,7 +126,9 @@ class Language(unittest.TestCase):
     def test_imports_are_of_the_package(self):
         for path, tree in trees():
             for node in ast.walk(tree):
-                if isinstance(node, ast.ImportFrom):
+                if isinstance(node, ast.ImportFrom) and node.module in LIBRARY:
+                    self.assertTrue(all(name.name in LIBRARY[node.module] for name in node.names), path.name)
+                elif isinstance(node, ast.ImportFrom):
                     self.assertTrue(node.module.startswith("likematch."), path.name)
                     self.assertEqual(node.level, 0)
                     module = importlib.import_module(node.module)
