@@ -2,7 +2,11 @@
 
 
 class MatchError(ValueError):
-    """What this package refuses."""
+    """What this package refuses; word is the class's name in small letters."""
+
+    def __init__(self, why=""):
+        super().__init__(f"{why}")
+        self.word = self.__class__.__name__.lower()
 
 
 class BadTerm(MatchError):

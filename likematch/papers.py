@@ -2,7 +2,7 @@
 
 from likematch.errors import NotAlike
 from likematch.terms import MOST_PARTS, all_within, is_below, is_number, is_pair, is_term
-from likematch.webs import lows_of
+from likematch.webs import Likeness
 
 MOST_PAPER = 20000
 SAME = "same"
@@ -106,10 +106,8 @@ def terms_of(pairs):
 
 def any_alike(pairs, asked):
     """Whether one of the pairs that are asked for is alike by the other pairs."""
-    terms = terms_of(pairs + asked)
-    lows = lows_of(terms, pairs)
-    low = {term: lows[at] for at, term in enumerate(terms)}
-    return any([low[one] == low[other] for one, other in asked])
+    likeness = Likeness(terms_of(pairs), pairs)
+    return any([likeness.alike(one, other) for one, other in asked])
 
 
 def needed_ones(told, one, other):
@@ -206,11 +204,10 @@ class Book:
 
 
 def paper_by(told, one, other):
-    """A paper of these two, which are alike by the tellings; it names none that can be left out."""
-    needed = needed_ones(told, one, other)
-    book = Book(terms_of(list(needed.values()) + [(one, other)]))
-    for number in needed:
-        near, far = needed[number]
+    """A paper of these two, which are alike by the tellings."""
+    book = Book(terms_of(list(told.values()) + [(one, other)]))
+    for number in told:
+        near, far = told[number]
         book.bind(near, far, (TOLD, number))
     book.bind_like_parts()
     return book.paper(one, other)
@@ -220,4 +217,4 @@ def paper_of(web, one, other):
     """A paper of these two by what was told to the web."""
     if not web.alike(one, other):
         raise NotAlike("these two are not alike")
-    return paper_by(web.told(), one, other)
+    return paper_by(needed_ones(web.told(), one, other), one, other)

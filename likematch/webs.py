@@ -49,20 +49,46 @@ def alike_by_parts(rows, lows):
     return found
 
 
-def lows_of(terms, pairs):
-    """For each of these terms the place of the first one that is alike to it by the pairs.
+class Likeness:
+    """The least relation of all terms by which pairs of some of them are alike.
 
-    All terms in them, and those of the pairs, are among them.
+    These terms are handed in with all terms in them. What is not among them is alike by its parts alone.
     """
-    places = {term: at for at, term in enumerate(terms)}
-    rows = [(term[0], [places[part] for part in term[1:]]) for term in terms]
-    lows = list(range(len(terms)))
-    due = [(places[one], places[other]) for one, other in pairs]
-    while due:
-        for one, other in due:
-            lows = joined(lows, one, other)
-        due = alike_by_parts(rows, lows)
-    return lows
+
+    def __init__(self, terms, pairs):
+        self.places = {term: at for at, term in enumerate(terms)}
+        self.rows = [(term[0], [self.places[part] for part in term[1:]]) for term in terms]
+        self.lows = list(range(len(terms)))  # for each term the place of the first one that is alike to it
+        self.shapes = {}  # from a head with its parts' marks to the low of all such terms
+        self.due = []  # pairs of places that are to be joined
+        for one, other in pairs:
+            self.tell(one, other)
+        self._settle()
+
+    def tell(self, one, other):
+        """From now on, these two are alike, too."""
+        self.due.append((self.places[one], self.places[other]))
+
+    def alike(self, one, other):
+        """Whether the two are alike."""
+        return self.mark(one) == self.mark(other)
+
+    def mark(self, term):
+        """What is equal of like terms alone: the low of the term's class, or its shape where it has none."""
+        if self.due:
+            self._settle()
+        shape = (term[0],) + tuple([self.mark(part) for part in term[1:]])
+        return self.shapes.get(shape, shape)
+
+    def _settle(self):
+        """Join all that is due, and what comes to be alike by that."""
+        while self.due:
+            for one, other in self.due:
+                self.lows = joined(self.lows, one, other)
+            self.due = alike_by_parts(self.rows, self.lows)
+        self.shapes = {}
+        for (head, parts), low in zip(self.rows, self.lows):
+            self.shapes[(head,) + tuple([self.lows[part] for part in parts])] = low
 
 
 class Web:
@@ -74,8 +100,7 @@ class Web:
         self.tellings = []  # the rows among deeds that have numbers
         self.ranks = {}  # that by which they are ordered, of the terms that stand
         self.rising = []  # these terms in their order
-        self.lows = []  # as lows_of tells of them
-        self.shapes = {}  # from a head with its parts' marks to the low of all such terms
+        self.likeness = Likeness([], [])  # of these terms; another one as they come, so that twins may share it
 
     def put(self, term):
         """Put the term and all terms in it into the web."""
@@ -93,19 +118,19 @@ class Web:
         """Whether the two are alike, standing here or not."""
         refuse_no_term(one)
         refuse_no_term(other)
-        return self._mark(one) == self._mark(other)
+        return self.likeness.alike(one, other)
 
     def classes(self):
         """The classes, each from its least term up, by their least ones."""
         rows = {}
-        for term, low in zip(self.rising, self.lows):
+        for term, low in zip(self.rising, self.likeness.lows):
             rows.setdefault(low, []).append(term)
         return list(rows.values())
 
     def least(self, term):
         """The least term here that is alike to this one, or None."""
         refuse_no_term(term)
-        mark = self._mark(term)
+        mark = self.likeness.mark(term)
         return self.rising[mark] if isinstance(mark, int) else None
 
     def terms(self):
@@ -197,20 +222,7 @@ class Web:
     def _settle(self):
         """Find anew which of the terms that stand are alike."""
         self.rising = sorted(self.ranks, key=lambda term: self.ranks[term])
-        self.lows = lows_of(self.rising, list(self.told().values()))
-        self.shapes = {}
-        # Parts rise ahead of what they are in, so their marks are there when they are asked for.
-        for term, low in zip(self.rising, self.lows):
-            self.shapes[self._shape(term)] = low
-
-    def _shape(self, term):
-        """The term's head with the marks of its parts."""
-        return (term[0],) + tuple([self._mark(part) for part in term[1:]])
-
-    def _mark(self, term):
-        """What is equal of like terms alone: the low of the term's class, or its shape where it has none."""
-        shape = self._shape(term)
-        return self.shapes.get(shape, shape)
+        self.likeness = Likeness(self.rising, list(self.told().values()))
 
     def _numbered(self, word):
         """The pairs of the tellings of this word, by their numbers."""
@@ -223,5 +235,4 @@ class Web:
         self.tellings = list(other.tellings)
         self.ranks = {term: other.ranks[term] for term in other.ranks}
         self.rising = list(other.rising)
-        self.lows = list(other.lows)
-        self.shapes = {shape: other.shapes[shape] for shape in other.shapes}
+        self.likeness = other.likeness

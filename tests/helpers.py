@@ -1,9 +1,11 @@
 """What several tests need: things of any kind, terms, and likeness found the slow way."""
 
+import copy
 import itertools
 import random
 
-from likematch.errors import NoDeed
+from likematch.errors import NoCover, NoDeed
+from likematch.rules import Rule
 from likematch.texts import read_pattern
 from likematch.webs import Web
 
@@ -244,14 +246,79 @@ def some_small_pattern(chance, deep=3, holes=("?x", "?y")):
     return (chance.choice("fg"),) + tuple(some_small_pattern(chance, deep - 1, holes) for _ in range(parts))
 
 
+def rule_of(name, text, *when, **more):
+    """A rule of texts such as `f(?x)=?x`."""
+    pairs = [tuple(map(read_pattern, row.split("="))) for row in (text,) + when]
+    return Rule(name, *pairs[0], when=pairs[1:], **more)
+
+
+def some_head(chance):
+    """A tuple pattern that often stands in a web of some_rows."""
+    return (chance.choice("fg"),) + tuple(chance.choice(("?x", "?y", A, ("g", "?x"))) for _ in range(chance.choice((1, 1, 2))))
+
+
+def some_rule(chance, name):
+    """A rule over the heads of some_term, or None where it is refused."""
+    pick = [some_head(chance), chance.choice((some_head(chance), "?x", "?y", A, B)), some_head(chance),
+            chance.choice(("?x", "?y", A, some_small_pattern(chance, 2)))]
+    try:
+        return Rule(name, pick[0], pick[1], when=[(pick[2], pick[3])] if chance.random() < 0.5 else [],
+                    apart=chance.random() < 0.2)
+    except NoCover:
+        return None
+
+
+def some_rules(chance):
+    """None to three rules of unlike names."""
+    rules = [some_rule(chance, "r" + "abc"[at]) for at in range(chance.randrange(1, 4))]
+    return [rule for rule in rules if rule is not None]
+
+
+LIVELY = ("f(?x)=?x", "f(?x)=g(?x)", "f(?x,?y)=f(?y,?x)", "g(?x)=?x", "?x=?y f(?x)=f(?y)", "?x=?y g(?x)=g(?y)",
+          "?x=?y f(?x)=f(?y) ?x=?x", "g(?x)=?x f(?x)=a", "f(?x)=b g(?x)=?x", "f(?x)=g(?y) ?x=?y", "f(f(?x))=f(?x)",
+          "f(?x,?y)=?x ?x=?y", "g(?x)=c f(?x)=f(a)", "a=b", "f(a)=g(b) c=d", "f(?x,?y)=?y ?x=a", "g(f(?x))=?x f(?x)=?x")
+
+
+def lively_rules(chance, unlike=0):
+    """One to four rules that often bring something into a web of some_rows, so many of them apart."""
+    texts = chance.sample(LIVELY, chance.randrange(1, 5))
+    return [rule_of("r" + "abcd"[at], *text.split(), apart=at < unlike) for at, text in enumerate(texts)]
+
+
+def put_in(pattern, fill):
+    """The filled pattern, told plainly."""
+    if isinstance(pattern, str):
+        return fill[pattern]
+    return (pattern[0],) + tuple(put_in(part, fill) for part in pattern[1:])
+
+
+def judged(told, rules, account):
+    """The pair of an account, walked plainly; an AssertionError where it is none."""
+    assert type(account) is tuple
+    steps, paper = account
+    assert type(steps) is list and len(steps) <= 40
+    known = dict(told)
+    for at, (name, filling, papers) in enumerate(steps):
+        rule, = [rule for rule in rules if rule.name == name]
+        assert not rule.apart
+        assert type(filling) is tuple and [hole for hole, _ in filling] == holes_told(
+            [rule.one, rule.other] + [pattern for pair in rule.when for pattern in pair])
+        fill = dict(filling)
+        assert type(papers) is list and len(papers) == len(rule.when)
+        for one, (near, far) in zip(papers, rule.when):
+            assert walked(known, one) == (put_in(near, fill), put_in(far, fill))
+        known[1001 + at] = (put_in(rule.one, fill), put_in(rule.other, fill))
+    return walked(known, paper)
+
+
 def chances(seed):
     """The same run of choices each time."""
     return random.Random(seed)
 
 
 def all_of(web):
-    """All that a web tells without being asked of a term."""
-    return (web.log(), web.terms(), web.classes(), web.told(), web.parted(), len(web))
+    """All that a web tells without being asked of a term, as it is now."""
+    return copy.deepcopy((web.log(), web.terms(), web.classes(), web.told(), web.parted(), len(web)))
 
 
 def undone(web):

@@ -28,6 +28,12 @@ class Refusals(unittest.TestCase):
                  if isinstance(thing, type) and issubclass(thing, Exception)]
         self.assertEqual(sorted(found), sorted(PLAIN + tuple(FIELDS) + ("MatchError",)))
 
+    def test_each_bears_its_name_in_small_letters(self):
+        for name in PLAIN:
+            self.assertEqual(getattr(errors, name)("why").word, name.lower())
+        for name, (_, worth) in FIELDS.items():
+            self.assertEqual(getattr(errors, name)(worth).word, name.lower())
+
     def test_plain_ones_are_raised_and_caught(self):
         for name in PLAIN:
             with self.subTest(name), self.assertRaises(errors.MatchError) as caught:

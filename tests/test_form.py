@@ -20,12 +20,16 @@ FUNCTIONS = {
     "matches": {"joint": ["web", "patterns"], "matches": ["web", "pattern"],
                 "stands_at": ["web", "pattern", "term", "fill"]},
     "rules": {"covers": ["rule"]},
+    "accounts": {"account_of": ["rounds", "one", "other"], "shown": ["told", "rules", "account"], "used": ["account"]},
+    "models": {"holds": ["table", "rule"], "model_of": ["web", "rules", "more"]},
+    "desk": {"answers": ["text"]},
 }
 CLASSES = {
     "webs": {"Web": []},
     "finders": {"Finder": ["web", "patterns"]},
     "rules": {"Rule": ["name", "one", "other", "when", "apart", "triggers"]},
     "rounds": {"Rounds": ["web", "rules"]},
+    "desk": {"Desk": []},
 }
 METHODS = {
     "webs": {"Web": {"put": ["term"], "like": ["one", "other"], "unlike": ["one", "other"], "alike": ["one", "other"],
@@ -34,9 +38,10 @@ METHODS = {
     "finders": {"Finder": {"new": [], "told": [], "gone": [], "forget": []}},
     "rules": {"Rule": {"holes": [], "triggers": [], "__eq__": ["other"]}},
     "rounds": {"Rounds": {"bring": [], "run": ["most"], "is_quiet": [], "reached": [], "rules": [], "instances": []}},
+    "desk": {"Desk": {"answer": ["row"]}},
 }
 # Arguments by name alone, and what they are where they are left out.
-BY_NAME = {("tables", "table_of"): {"more": ()},
+BY_NAME = {("tables", "table_of"): {"more": ()}, ("models", "model_of"): {"more": ()},
            ("rules", "Rule"): {"when": (), "apart": False, "triggers": None}}
 LIBRARY = {"itertools": ("combinations",)}
 FORBIDDEN = (ast.Global, ast.AsyncFunctionDef, ast.Import, ast.Set, ast.Div)
@@ -95,6 +100,11 @@ class Language(unittest.TestCase):
         self.assertIn("__init__.py", found)
         for name in found:
             self.assertRegex(name, r"\A[a-z_]+\.py\Z")
+
+    def test_all_files_of_the_document_are_there(self):
+        for name in ("errors", "terms", "texts", "webs", "papers", "tables", "clashes", "logs", "matches", "finders", "rules",
+                     "rounds", "accounts", "models", "told", "desk"):
+            self.assertTrue((PACKAGE / f"{name}.py").is_file(), name)
 
     def test_lines_and_signs(self):
         for path in files():

@@ -3,9 +3,9 @@
 import itertools
 import unittest
 
-from helpers import (A, B, C, D, chances, fillings_told, holes_told, like_fillings, numbered, slow_joint,
-                     some_rows, some_small_pattern, web_behind, web_of_texts, whole)
-from likematch.errors import BadRules, MatchError, NoCover, TooGreat, TooMany
+from helpers import (A, B, C, D, chances, fillings_told, holes_told, like_fillings, lively_rules, numbered, rule_of,
+                     slow_joint, some_rows, some_rules, web_behind, web_of_texts, whole)
+from likematch.errors import BadRules, MatchError, TooGreat, TooMany
 from likematch.rounds import MOST_ROUNDS, Rounds
 from likematch.rules import Rule
 from likematch.terms import filled
@@ -13,14 +13,6 @@ from likematch.texts import read_pattern
 from likematch.webs import Web
 
 COMM = Rule("comm", ("f", "?x", "?y"), ("f", "?y", "?x"))
-
-
-def rule_of(name, text, *when, **more):
-    """A rule of texts such as `f(?x)=?x`."""
-    pairs = [tuple(map(read_pattern, row.split("="))) for row in (text,) + when]
-    return Rule(name, *pairs[0], when=pairs[1:], **more)
-
-
 GROW = rule_of("grow", "f(?x)=g(f(?x))")
 
 
@@ -378,34 +370,13 @@ class Apart(unittest.TestCase):
         self.assertEqual(len(Rounds(web.twin(), [GROW]).bring()), 1)
 
 
-def some_head(chance):
-    """A tuple pattern that often stands in a web of some_rows."""
-    return (chance.choice("fg"),) + tuple(chance.choice(("?x", "?y", A, ("g", "?x"))) for _ in range(chance.choice((1, 1, 2))))
-
-
-def some_rule(chance, name):
-    """A rule over the heads of some_term, or None where it is refused."""
-    pick = [some_head(chance), chance.choice((some_head(chance), "?x", "?y", A, B)), some_head(chance),
-            chance.choice(("?x", "?y", A, some_small_pattern(chance, 2)))]
-    try:
-        return Rule(name, pick[0], pick[1], when=[(pick[2], pick[3])] if chance.random() < 0.5 else [],
-                    apart=chance.random() < 0.2)
-    except NoCover:
-        return None
-
-
-def some_rules(chance):
-    rules = [some_rule(chance, "r" + "abc"[at]) for at in range(chance.randrange(1, 4))]
-    return [rule for rule in rules if rule is not None]
-
-
 class Slow(unittest.TestCase):
     def test_against_the_words_of_the_document(self):
         chance = chances(90)
         brought = later = 0
         for _ in range(250):
             web = web_behind(some_rows(chance, chance.randrange(1, 5)))
-            rules = some_rules(chance)
+            rules = some_rules(chance) if chance.random() < 0.5 else lively_rules(chance, chance.choice((0, 1)))
             rounds, slow = Rounds(web, rules), SlowRounds(web, rules)
             for number in range(3):
                 if len(slow.web) > 14:
@@ -422,8 +393,8 @@ class Slow(unittest.TestCase):
                 self.assertEqual(whole(rounds.reached()), whole(slow.web))
                 brought += len(expected)
                 later += len(expected) if number else 0
-        self.assertGreater(brought, 200)
-        self.assertGreater(later, 15)
+        self.assertGreater(brought, 250)
+        self.assertGreater(later, 30)
 
     def same_instances(self, one, other):
         """Whether each instance of the one has a like one of the other, in the same round."""
@@ -437,7 +408,7 @@ class Slow(unittest.TestCase):
         many = 0
         for _ in range(120):
             rows = some_rows(chance, chance.randrange(1, 5))
-            rules = some_rules(chance)
+            rules = some_rules(chance) if chance.random() < 0.5 else lively_rules(chance, chance.choice((0, 1)))
             pair = []
             for _ in range(2):
                 pair.append(Rounds(web_behind(chance.sample(rows, len(rows))), chance.sample(rules, len(rules))))
