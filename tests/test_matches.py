@@ -148,6 +148,22 @@ class Matches(unittest.TestCase):
         self.assertEqual(matches(web, FX), matches_told("f(a) ?x=a"))
         self.assertEqual(joint(web, [FX]), fillings_told("?x=a"))
 
+    def test_behind_deeds_taken_back_and_done_again_and_of_twins(self):
+        web = web_of_texts("f(a)", "f(b)", "a=b", "f(c)")
+        told = []
+        for many in range(5):
+            self.assertEqual(matches(web, FX), matches(web.twin(), FX))
+            self.assertEqual(joint(web, [FX, "?y"]), joint(web.twin(), [FX, "?y"]))
+            told.append((matches(web, FX), joint(web, [FX]), stands_at(web, FX, ("f", A), {"?x": B})))
+            if many < 4:
+                web.back()
+        self.assertEqual([len(row[0]) for row in told], [2, 1, 2, 1, 0])
+        self.assertEqual([row[2] for row in told], [True, True, False, False, False])
+        while told:
+            self.assertEqual((matches(web, FX), joint(web, [FX]), stands_at(web, FX, ("f", A), {"?x": B})), told.pop())
+            if told:
+                web.again()
+
     def test_all_ways_tried_one_by_one(self):
         chance = chances(61)
         many = 0

@@ -239,7 +239,11 @@ class Covers(unittest.TestCase):
                 ("?x", "?y", A)))[:chance.choice((1, 2, 3, 3))] for _ in range(2 * chance.randrange(1, 4))]
             pick[1] = chance.choice((pick[1], "?x", "?v")) if len(holes_told(pick)) < 4 else pick[1]
             triggers = [("k",) + tuple(row) for row in (holes_told(pick)[:2], holes_told(pick)[2:]) if row]
-            rule = Rule("r", pick[0], pick[1], when=list(zip(pick[2::2], pick[3::2])), triggers=triggers)
+            more = dict(when=list(zip(pick[2::2], pick[3::2])), triggers=triggers)
+            if sum(1 for part in set().union(*map(within, pick)) if isinstance(part, tuple) and holes_told([part])) > 12:
+                self.assertRaises(BadRule, Rule, "r", pick[0], pick[1], **more)
+                continue
+            rule = Rule("r", pick[0], pick[1], **more)
             expected = slow_covers(rule)
             self.assertEqual(covers(rule), expected, pick)
             many += len(expected) > 2
